@@ -1,13 +1,17 @@
 package refs_test
 
 import (
+	"fmt"
 	"math/big"
 	"os"
+	"os/exec"
+	"runtime"
 	"slices"
 	"sort"
 	"strconv"
 	"strings"
 	"sync"
+	"sync/atomic"
 	"testing"
 	"unicode/utf8"
 
@@ -17,37 +21,75 @@ import (
 
 // begun is what was seen ahead of all tests, when nobody had needed the table yet.
 var begun struct {
-	first, unneeded, after int
-	wrong                  []string
+	first, unneeded, read, after int
+	wrong                        []string
 }
 
+// asked names, where a test runs this program anew, what it is to call first of all.
+const asked = "REFS_FIRST_CALL"
+
 func TestMain(m *testing.M) {
+	if name := os.Getenv(asked); name != "" {
+		fmt.Print(madeBehind(name))
+		os.Exit(0)
+	}
 	begun.first = refs.Made()
 	refs.Number(65)
 	begun.unneeded = refs.Made()
-	begun.wrong = needAtOnce()
+	begun.wrong = append(begun.wrong, needed(2), needed(3))
+	begun.read = refs.Made()
+	begun.wrong = append(begun.wrong, needAtOnce()...)
 	begun.after = refs.Made()
 	os.Exit(m.Run())
 }
 
-// needAtOnce has many need the table at a time, as each call that does, and tells whose answer was wrong.
-func needAtOnce() []string {
-	const many = 64
-	wrong := make([]string, many)
-	start := make(chan struct{})
-	var all sync.WaitGroup
-	for i := range many {
-		all.Go(func() {
-			<-start
-			wrong[i] = need(i)
-		})
+// madeBehind tells how often the table was made ahead of one call and behind it.
+func madeBehind(name string) string {
+	ahead := refs.Made()
+	switch name {
+	case "Names":
+		refs.Names()
+	case "Name":
+		refs.Name("amp")
+	case "Name of none":
+		refs.Name("no such")
+	case "Number":
+		refs.Number(38)
+	case "Ref":
+		refs.Ref("&amp;", false)
+	case "Expand":
+		refs.Expand("&amp;", true)
+	case "many at once":
+		for _, w := range needAtOnce() {
+			if w != "" {
+				return w
+			}
+		}
 	}
-	close(start)
-	all.Wait()
-	return slices.DeleteFunc(wrong, func(s string) bool { return s == "" })
+	return strconv.Itoa(ahead) + " " + strconv.Itoa(refs.Made())
 }
 
-func need(i int) string {
+// needAtOnce has many ask at a time, and tells whose answer was wrong.
+// They wait by turning: who is woken one by one would come too late to meet the others.
+func needAtOnce() []string {
+	wrong := make([]string, max(4, runtime.GOMAXPROCS(0)))
+	var ready atomic.Int64
+	var all sync.WaitGroup
+	for i := range wrong {
+		all.Go(func() {
+			for ready.Add(1); ready.Load() < int64(len(wrong)); {
+				runtime.Gosched()
+			}
+			wrong[i] = needed(i)
+		})
+	}
+	all.Wait()
+	return wrong
+}
+
+// needed asks what may need the table, and tells what was wrong.
+func needed(i int) string {
+	least := 1
 	switch i % 4 {
 	case 0:
 		if s, is := refs.Name("nvlt;"); !is || s != "<\u20D2" {
@@ -58,16 +100,18 @@ func need(i int) string {
 			return "Names " + strings.Join(names, " ")
 		}
 	case 2:
+		least = 0
 		if s, n := refs.Ref("&amp;", false); s != "&" || n != 5 {
 			return "Ref " + s
 		}
 	default:
+		least = 0
 		if s := refs.Expand("&lt;p&gt;", true); s != "<p>" {
 			return "Expand " + s
 		}
 	}
-	if refs.Made() != 1 {
-		return "Made, behind a call that needs the table"
+	if made := refs.Made(); made < least || made > 1 {
+		return "Made " + strconv.Itoa(made)
 	}
 	return ""
 }
@@ -76,8 +120,13 @@ func TestP204MadeOnceWhenNeeded(t *testing.T) {
 	if begun.first != 0 || begun.unneeded != 0 {
 		t.Errorf("made ahead of any need: %d, %d", begun.first, begun.unneeded)
 	}
+	if begun.read != 0 && begun.read != 1 {
+		t.Errorf("made %d times by Ref and Expand", begun.read)
+	}
 	for _, w := range begun.wrong {
-		t.Errorf("many at a time: %s", w)
+		if w != "" {
+			t.Errorf("ahead of the table, or by many at a time: %s", w)
+		}
 	}
 	if begun.after != 1 {
 		t.Errorf("made %d times by many at a time", begun.after)
@@ -88,6 +137,71 @@ func TestP204MadeOnceWhenNeeded(t *testing.T) {
 	refs.Expand("&copy;", false)
 	if got := refs.Made(); got != 1 {
 		t.Errorf("made %d times", got)
+	}
+}
+
+func TestP204TheFirstCallOfAll(t *testing.T) {
+	for name, want := range map[string]string{
+		"Names": "0 1", "Name": "0 1", "Name of none": "0 1", "Number": "0 0", "Ref": "0 0 or 0 1", "Expand": "0 0 or 0 1",
+	} {
+		if got := anew(t, name); !slices.Contains(strings.Split(want, " or "), got) {
+			t.Errorf("made ahead of %s and behind it: %s, not %s", name, got, want)
+		}
+	}
+}
+
+func TestP204ManyAtOnce(t *testing.T) {
+	for range 40 {
+		if got := anew(t, "many at once"); got != "0 1" {
+			t.Fatalf("made ahead of many at once and behind them: %s", got)
+		}
+	}
+}
+
+// anew runs this program anew, for the table is made once in each, and tells madeBehind of name.
+func anew(t *testing.T, name string) string {
+	t.Helper()
+	c := exec.Command(os.Args[0])
+	c.Env = append(os.Environ(), asked+"="+name)
+	out, err := c.Output()
+	if err != nil {
+		t.Fatal(err)
+	}
+	return string(out)
+}
+
+func TestP204RefsTellWhatNameTells(t *testing.T) {
+	for _, name := range refs.Names() {
+		want, is := refs.Name(name)
+		if !is || want == "" {
+			t.Errorf("Name(%q): %q, %v", name, want, is)
+		}
+		for _, attr := range []bool{false, true} {
+			for _, behind := range []string{"", " ", "&", "-a=1"} {
+				s := "&" + name + behind
+				if got := refOf(s, attr); got != (answer{want, 1 + len(name)}) {
+					t.Errorf("Ref(%q, %v): %q, %d, but Name tells %q", s, attr, got.s, got.n, want)
+				}
+				if got := refs.Expand("a"+s, attr); got != "a"+want+behind {
+					t.Errorf("Expand(%q, %v): %q, but Name tells %q", "a"+s, attr, got, want)
+				}
+			}
+		}
+	}
+}
+
+func TestP204RefsKnowNoOtherNames(t *testing.T) {
+	for _, s := range built([]string{"amp", "not", "in", "sup", "1", "Tab", "times", "b", "ne", "q", ";"}, 3) {
+		text, n := refs.Ref("&"+s, false)
+		if n == 0 {
+			if got, is := refs.Name(s); is {
+				t.Errorf("Ref(%q): none, but Name tells %q", "&"+s, got)
+			}
+			continue
+		}
+		if got, is := refs.Name(s[:n-1]); !is || got != text {
+			t.Errorf("Ref(%q): %q, %d, but Name tells %q, %v", "&"+s, text, n, got, is)
+		}
 	}
 }
 
