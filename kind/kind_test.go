@@ -153,14 +153,37 @@ func TestP501Has(t *testing.T) {
 	}
 }
 
-func TestP501HasIsOfSet(t *testing.T) {
+// unlike tells where Has and Set are at odds, of all numbers and texts; nothing, if nowhere.
+// Has is asked first: what it tells may not hang on whether Set was called.
+func unlike() string {
+	type asked struct {
+		set  int
+		name string
+	}
+	has := map[asked]bool{}
+	for _, set := range numbers() {
+		for _, name := range texts() {
+			has[asked{set, name}] = kind.Has(set, name)
+		}
+	}
 	for _, set := range numbers() {
 		l := kind.Set(set)
-		for _, name := range known() {
-			if got, want := kind.Has(set, name), slices.Contains(l, name); got != want {
-				t.Errorf("Has(%d, %q): %v, but Set tells %v", set, name, got, want)
+		for _, name := range append(texts(), l...) {
+			told := slices.Contains(l, name)
+			if has[asked{set, name}] != told || kind.Has(set, name) != told {
+				return fmt.Sprintf("Has(%d, %q): not what Set tells, %v", set, name, told)
 			}
 		}
+	}
+	return ""
+}
+
+func TestP501HasIsOfSet(t *testing.T) {
+	if got := unlike(); got != "" {
+		t.Error(got)
+	}
+	if got := anew(t, "Has ahead of Set"); got != "0 1" {
+		t.Errorf("in a program that begins with Has: %s", got)
 	}
 }
 
@@ -270,6 +293,10 @@ func madeBehind(name string) string {
 		kind.Has(api.Void, "p")
 	case "Has of none":
 		kind.Has(-1, "p")
+	case "Has ahead of Set":
+		if w := unlike(); w != "" {
+			return w
+		}
 	case "Wall":
 		kind.Wall(api.ScopeList, api.Html, "ul")
 	case "State":
